@@ -2,14 +2,13 @@
 package word
 
 import (
-	"strconv"
 	"sync"
 
 	"cellar/api"
 )
 
-// The names are the same for every call, and calls may come from several
-// goroutines: whoever asks first makes them, the others wait for it.
+// The kept names stand beside name, on which alone an answer hangs. Calls may
+// come from several goroutines: whoever asks first keeps them, the others wait.
 var (
 	named sync.Once
 	names [api.KPtr + 1]string // by kind
@@ -68,7 +67,12 @@ func Name(kind int) (string, api.Errno) {
 	if !isScalar(kind) {
 		return "", api.ErrNone
 	}
-	return name(kind), api.OK
+	s := name(kind)
+	named.Do(keepNames)
+	if kept := names[kind]; kept == s {
+		return kept, api.OK
+	}
+	return s, api.OK
 }
 
 // Kind is the kind of scalars that is called s.
@@ -115,17 +119,25 @@ func signed(kind int) bool {
 
 // name is asked only of kinds of scalars.
 func name(kind int) string {
-	named.Do(makeNames)
-	return names[kind]
+	switch kind {
+	case api.KU8:
+		return "u8"
+	case api.KI8:
+		return "i8"
+	case api.KU16:
+		return "u16"
+	case api.KI16:
+		return "i16"
+	case api.KU32:
+		return "u32"
+	case api.KI32:
+		return "i32"
+	}
+	return "ptr"
 }
 
-func makeNames() {
-	for kind := api.KU8; kind <= api.KI32; kind++ {
-		sign := "u"
-		if signed(kind) {
-			sign = "i"
-		}
-		names[kind] = sign + strconv.Itoa(width(kind))
+func keepNames() {
+	for kind := api.KU8; kind <= api.KPtr; kind++ {
+		names[kind] = name(kind)
 	}
-	names[api.KPtr] = "ptr"
 }
