@@ -10,6 +10,7 @@ import (
 	"cellar/alu"
 	"cellar/api"
 	"cellar/maths"
+	"cellar/samples"
 	"cellar/val"
 )
 
@@ -19,22 +20,6 @@ var (
 	_ func(int, int, api.Val) (api.Val, []int, api.Errno)          = maths.One
 	_ func(int, int, api.Val) (api.Val, api.Errno)                 = maths.Cast
 )
-
-func kinds() []int {
-	return []int{api.KU8, api.KI8, api.KU16, api.KI16, api.KU32, api.KI32}
-}
-
-func notKinds() []int {
-	return []int{api.KNone, api.KPtr, api.KArray, api.KStruct, api.KUnion, api.KPart, -1, 99, math.MaxInt, math.MinInt}
-}
-
-func widthOf(kind int) int {
-	return map[int]int{api.KU8: 8, api.KI8: 8, api.KU16: 16, api.KI16: 16, api.KU32: 32, api.KI32: 32}[kind]
-}
-
-func isSigned(kind int) bool {
-	return kind == api.KI8 || kind == api.KI16 || kind == api.KI32
-}
 
 func opsOfTwo() []int {
 	return []int{api.EAdd, api.ESub, api.EMul, api.EDiv, api.ERem, api.EAnd, api.EOr, api.EXor, api.EShl, api.EShr, api.EEq, api.ELess}
@@ -49,7 +34,7 @@ func answerWidth(op int, kind int) int {
 	if op == api.EEq || op == api.ELess || op == api.EZero {
 		return 32
 	}
-	return widthOf(kind)
+	return samples.Width(kind)
 }
 
 // possible are the classes that alu can tell of an operator and a kind, as
@@ -57,11 +42,11 @@ func answerWidth(op int, kind int) int {
 func possible(op int, kind int) []int {
 	switch op {
 	case api.EAdd, api.ESub, api.EMul, api.ENeg:
-		if isSigned(kind) {
+		if samples.Signed(kind) {
 			return []int{api.BadOver}
 		}
 	case api.EDiv, api.ERem:
-		if isSigned(kind) {
+		if samples.Signed(kind) {
 			return []int{api.BadOver, api.BadZero}
 		}
 		return []int{api.BadZero}
@@ -69,141 +54,6 @@ func possible(op int, kind int) []int {
 		return []int{api.BadShift}
 	}
 	return nil
-}
-
-func just(w int, n int) api.Val {
-	return api.Val{Width: w, Low: n, High: n, Bits: n}
-}
-
-func row(w int, low int, high int) api.Val {
-	return api.Val{Width: w, Low: low, High: high, Free: 1<<w - 1}
-}
-
-func no(w int) api.Val {
-	return api.Val{Width: w, None: true}
-}
-
-// isMember is chapter 3's words.
-func isMember(v api.Val, n int) bool {
-	if v.None {
-		return false
-	}
-	round := v.Low <= n && n <= v.High
-	if v.Low > v.High {
-		round = v.Low <= n || n <= v.High
-	}
-	return round && n&^v.Free == v.Bits
-}
-
-// all are the members of a set of 8 bits, one by one.
-func all(v api.Val) []int {
-	var l []int
-	for n := range 1 << v.Width {
-		if isMember(v, n) {
-			l = append(l, n)
-		}
-	}
-	return l
-}
-
-// sets are of a width: none, single, rows, over the end, patterns, patterns that
-// miss their row (or have it but for one).
-func sets(w int) []api.Val {
-	top, half := 1<<w-1, 1<<(w-1)
-	l := []api.Val{no(w), row(w, 0, top), row(w, 6, 4), row(w, half, half-1), row(w, half+1, half-1)}
-	for _, n := range []int{0, 1, 2, 7, 8, w - 1, w, half - 1, half, half + 1, top - 1, top} {
-		l = append(l, just(w, n))
-	}
-	for _, ends := range [][2]int{{0, 1}, {0, 9}, {1, 9}, {3, 5}, {2, 40}, {half - 2, half + 2}, {half - 9, half - 1}, {half, half + 9}, {top - 9, top}, {top - 2, 3}, {top - 20, 30}, {1, top}, {0, w - 1}, {1, w + 3}, {w, w + 9}, {100, 90}, {77, 77}} {
-		l = append(l, row(w, ends[0], ends[1]))
-	}
-	patterns := []api.Val{
-		{High: top, Free: top - 1},                          // even
-		{High: top, Free: top - 1, Bits: 1},                 // uneven
-		{High: top, Free: top - 3},                          // of four
-		{Low: 8, High: 40, Free: top - 7},                   // 8, 16 ..
-		{Low: top - 15, High: 16, Free: top - 3, Bits: 2},   // over the end
-		{High: top, Free: half | 1, Bits: 6},                // four of them
-		{High: top, Free: half | 1 | 4, Bits: 2},            // eight
-		{High: top, Free: half - 1, Bits: half},             // below 0
-		{High: top, Free: half - 1},                         // not below 0
-		{Low: 10, High: 12, Free: top &^ 15},                // nothing
-		{Low: 10, High: 17, Free: top &^ 15},                // just 16
-		{Low: half + 3, High: half - 3, Free: 2, Bits: 1},   // two
-		{Low: 1, High: top, Bits: 0},                        // nothing
-		{Low: half - 1, High: half + 1, Free: top - 1},      // just half
-		{Low: 20, High: top - 20, Free: top &^ 12, Bits: 4}, // here and there
-	}
-	for _, v := range patterns {
-		v.Width = w
-		l = append(l, v)
-	}
-	return l
-}
-
-// strange are sets that may not be of a kind of this width.
-func strange(w int) []api.Val {
-	top := 1<<w - 1
-	l := []api.Val{
-		{},
-		{Width: w, High: top, Free: 1, Bits: 1},
-		{Width: w, None: true, Low: 1},
-		{Width: w, None: true, Free: top},
-		{Width: w, High: -1, Free: top},
-		{Width: w, Low: top + 1, Free: top},
-		{Width: w, High: top, Free: top + 1},
-		{Width: w, High: top, Bits: math.MinInt},
-	}
-	for _, other := range []int{0, 1, 7, 8, 16, 24, 32, 64, -w, math.MaxInt, math.MinInt} {
-		if other != w {
-			l = append(l, api.Val{Width: other}, api.Val{Width: other, None: true})
-		}
-	}
-	return l
-}
-
-// some is a set whose fields stand at random places; often it is small.
-func some(r *rand.Rand, w int) api.Val {
-	top := 1<<w - 1
-	number := func() int { return int(r.Uint64()) & top >> r.Intn(w) }
-	near := func(n int) int { return (n + r.Intn(24)) & top }
-	low, free := number(), number()|number()
-	switch r.Intn(6) {
-	case 0:
-		return just(w, low)
-	case 1:
-		return api.Val{Width: w, Low: low, High: number(), Free: free, Bits: number() &^ free}
-	case 2:
-		return row(w, low, number())
-	case 3:
-		return row(w, low, near(low))
-	case 4:
-		return row(w, top-number(), number())
-	}
-	return api.Val{Width: w, High: top, Free: free, Bits: number() &^ free}
-}
-
-// sample are members of a set of whatever width: the first and the last ones, and
-// some at random.
-func sample(r *rand.Rand, v api.Val) []int {
-	top := 1<<v.Width - 1
-	near := []int{0, 1, 2, 3, v.Width - 1, v.Width, 1<<(v.Width-1) - 1, 1 << (v.Width - 1), 1<<(v.Width-1) + 1, top - 1, top}
-	for d := -1; d <= 2; d++ {
-		near = append(near, (v.Low+d)&top, (v.High-d)&top)
-	}
-	for range 8 {
-		near = append(near, int(r.Uint64())&top, (v.Low+int(r.Uint64())&7)&top)
-	}
-	var l []int
-	for _, n := range near {
-		for _, m := range []int{n, n&v.Free | v.Bits} {
-			if isMember(v, m) {
-				l = append(l, m)
-			}
-		}
-	}
-	slices.Sort(l)
-	return slices.Compact(l)
 }
 
 // holds checks what was told against what alu tells of some members, or of all:
@@ -224,7 +74,7 @@ func holds(t *testing.T, what []any, v api.Val, bads []int, op int, kind int, te
 	met := map[int]int{}
 	tell(func(n int, bad int) {
 		met[bad]++
-		if bad == api.BadNone && !isMember(v, n) {
+		if bad == api.BadNone && !samples.Has(v, n) {
 			t.Fatalf("%v: %d is not told: %+v", what, n, v)
 		}
 		if bad != api.BadNone && !slices.Contains(bads, bad) {
@@ -304,12 +154,12 @@ func oneHolds(t *testing.T, op int, kind int, a api.Val, la []int, whole bool) {
 func castHolds(t *testing.T, from int, to int, a api.Val, la []int) {
 	t.Helper()
 	v, e := maths.Cast(from, to, a)
-	if e != api.OK || val.Check(v) != api.OK || v.Width != widthOf(to) {
+	if e != api.OK || val.Check(v) != api.OK || v.Width != samples.Width(to) {
 		t.Fatalf("Cast(%d, %d, %+v) = %+v, %d", from, to, a, v, e)
 	}
 	for _, x := range la {
 		n, e := alu.Cast(from, to, x)
-		if e != api.OK || !isMember(v, n) {
+		if e != api.OK || !samples.Has(v, n) {
 			t.Fatalf("Cast(%d, %d, %+v) = %+v: %d is %d, %d", from, to, a, v, x, n, e)
 		}
 	}
@@ -317,14 +167,15 @@ func castHolds(t *testing.T, from int, to int, a api.Val, la []int) {
 
 // P4.1, P4.3 of 8 bits, held against all pairs of members.
 func TestTwoAllMembers(t *testing.T) {
-	l := sets(8)
+	l := samples.Sets(8)
 	r := rand.New(rand.NewSource(4))
+	number := func() int { return int(r.Uint64()) }
 	for range 25 {
-		l = append(l, some(r, 8))
+		l = append(l, samples.Some(number, 8))
 	}
 	members := make([][]int, len(l))
 	for i, v := range l {
-		members[i] = all(v)
+		members[i] = samples.Members(v)
 	}
 	for _, kind := range []int{api.KU8, api.KI8} {
 		for _, op := range opsOfTwo() {
@@ -340,18 +191,19 @@ func TestTwoAllMembers(t *testing.T) {
 
 // P4.2, P4.3 of 8 bits, held against all members one by one.
 func TestOneAllMembers(t *testing.T) {
-	l := sets(8)
+	l := samples.Sets(8)
 	r := rand.New(rand.NewSource(6))
+	number := func() int { return int(r.Uint64()) }
 	for range 1000 {
-		l = append(l, some(r, 8))
+		l = append(l, samples.Some(number, 8))
 	}
 	for _, a := range l {
-		members := all(a)
+		members := samples.Members(a)
 		for _, kind := range []int{api.KU8, api.KI8} {
 			for _, op := range opsOfOne() {
 				oneHolds(t, op, kind, a, members, true)
 			}
-			for _, to := range kinds() {
+			for _, to := range samples.Kinds() {
 				castHolds(t, kind, to, a, members)
 			}
 		}
@@ -361,14 +213,15 @@ func TestOneAllMembers(t *testing.T) {
 // P4.1, P4.2, P4.3 of 16 and 32 bits, held against members here and there.
 func TestSomeMembers(t *testing.T) {
 	r := rand.New(rand.NewSource(5))
-	for _, kind := range kinds()[2:] {
-		l := sets(widthOf(kind))
+	number := func() int { return int(r.Uint64()) }
+	for _, kind := range samples.Kinds()[2:] {
+		l := samples.Sets(samples.Width(kind))
 		for range 60 {
-			l = append(l, some(r, widthOf(kind)))
+			l = append(l, samples.Some(number, samples.Width(kind)))
 		}
 		members := make([][]int, len(l))
 		for i, v := range l {
-			members[i] = sample(r, v)
+			members[i] = samples.Sample(number, v)
 		}
 		for i, a := range l {
 			for _, op := range opsOfTwo() {
@@ -381,18 +234,11 @@ func TestSomeMembers(t *testing.T) {
 			for _, op := range opsOfOne() {
 				oneHolds(t, op, kind, a, members[i], false)
 			}
-			for _, to := range kinds() {
+			for _, to := range samples.Kinds() {
 				castHolds(t, kind, to, a, members[i])
 			}
 		}
 	}
-}
-
-// singles are sets of just n: as val.One makes it, as a row, as a pattern that
-// has nothing else in its row.
-func singles(w int, n int) []api.Val {
-	top := 1<<w - 1
-	return []api.Val{just(w, n), row(w, n, n), {Width: w, High: top, Bits: n}, {Width: w, Low: n &^ 1, High: n, Free: top - 1, Bits: n & 1}}
 }
 
 // isJust is whether a call told just n and no class, or no number and the class.
@@ -412,7 +258,7 @@ func TestTwoSingle(t *testing.T) {
 			for a := range 256 {
 				for b := a % 5; b < 256; b += 1 + b%7 {
 					n, bad, _ := alu.Two(op, kind, a, b)
-					v, bads, e := maths.Two(op, kind, just(8, a), just(8, b))
+					v, bads, e := maths.Two(op, kind, samples.Just(8, a), samples.Just(8, b))
 					if e != api.OK || v.Width != answerWidth(op, kind) || !isJust(v, bads, n, bad) {
 						t.Fatalf("Two(%d, %d, %d, %d) = %+v, %v, %d; want %d, %d", op, kind, a, b, v, bads, e, n, bad)
 					}
@@ -441,12 +287,12 @@ func twoIsJust(t *testing.T, kind int, x api.Val, y api.Val, a int, b int) {
 
 // P4.1, P4.2: the same at the edges of all widths, in whatever form a single one comes.
 func TestEdgesSingle(t *testing.T) {
-	for _, kind := range kinds() {
-		w := widthOf(kind)
+	for _, kind := range samples.Kinds() {
+		w := samples.Width(kind)
 		for _, a := range edges(w) {
-			for _, x := range singles(w, a) {
+			for _, x := range samples.Singles(w, a) {
 				for _, b := range edges(w) {
-					for _, y := range singles(w, b) {
+					for _, y := range samples.Singles(w, b) {
 						twoIsJust(t, kind, x, y, a, b)
 					}
 				}
@@ -456,7 +302,7 @@ func TestEdgesSingle(t *testing.T) {
 						t.Fatalf("One(%d, %d, %+v) = %+v, %v, %d; want %d, %d", op, kind, x, v, bads, e, n, bad)
 					}
 				}
-				for _, to := range kinds() {
+				for _, to := range samples.Kinds() {
 					n, _ := alu.Cast(kind, to, a)
 					if v, e := maths.Cast(kind, to, x); e != api.OK || !isJust(v, nil, n, api.BadNone) {
 						t.Fatalf("Cast(%d, %d, %+v) = %+v, %d; want %d", kind, to, x, v, e, n)
@@ -487,8 +333,8 @@ func TestEdgesWrittenOut(t *testing.T) {
 		{api.ELess, api.KI8, 255, 1, 1, api.BadNone},
 		{api.ELess, api.KU8, 255, 1, 0, api.BadNone},
 	} {
-		w := widthOf(c.kind)
-		v, bads, e := maths.Two(c.op, c.kind, just(w, c.a), just(w, c.b))
+		w := samples.Width(c.kind)
+		v, bads, e := maths.Two(c.op, c.kind, samples.Just(w, c.a), samples.Just(w, c.b))
 		if e != api.OK || !isJust(v, bads, c.n, c.bad) {
 			t.Errorf("%d: %+v, %v, %d", i, v, bads, e)
 		}
@@ -502,10 +348,10 @@ func TestEmpty(t *testing.T) {
 		empty, f := val.Empty(v)
 		return e == api.OK && f == api.OK && empty && v.Width == w && len(bads) == 0
 	}
-	for _, kind := range kinds() {
-		w := widthOf(kind)
-		for _, none := range []api.Val{no(w), {Width: w, Low: 1, High: 5}, {Width: w, Low: 10, High: 12, Free: 1<<w - 16}} {
-			for _, other := range append(sets(w), none) {
+	for _, kind := range samples.Kinds() {
+		w := samples.Width(kind)
+		for _, none := range samples.Empties(w) {
+			for _, other := range append(samples.Sets(w), none) {
 				for _, op := range opsOfTwo() {
 					v, bads, e := maths.Two(op, kind, none, other)
 					if !isNothing(v, bads, e, answerWidth(op, kind)) {
@@ -522,8 +368,8 @@ func TestEmpty(t *testing.T) {
 					t.Errorf("One(%d, %d, %+v) = %+v, %v, %d", op, kind, none, v, bads, e)
 				}
 			}
-			for _, to := range kinds() {
-				if v, e := maths.Cast(kind, to, none); !isNothing(v, nil, e, widthOf(to)) {
+			for _, to := range samples.Kinds() {
+				if v, e := maths.Cast(kind, to, none); !isNothing(v, nil, e, samples.Width(to)) {
 					t.Errorf("Cast(%d, %d, %+v) = %+v, %d", kind, to, none, v, e)
 				}
 			}
@@ -538,10 +384,10 @@ func refused(v api.Val, bads []int, e api.Errno) bool {
 
 // P4.1, P4.2: sets that may not be, or are of another width.
 func TestStrangeSets(t *testing.T) {
-	for _, kind := range kinds() {
-		w := widthOf(kind)
-		for _, wrong := range strange(w) {
-			for _, other := range append([]api.Val{no(w), just(w, 0), row(w, 0, 1<<w-1)}, wrong) {
+	for _, kind := range samples.Kinds() {
+		w := samples.Width(kind)
+		for _, wrong := range samples.Strange(w) {
+			for _, other := range append([]api.Val{samples.None(w), samples.Just(w, 0), samples.Row(w, 0, 1<<w-1)}, wrong) {
 				for _, op := range opsOfTwo() {
 					if v, bads, e := maths.Two(op, kind, wrong, other); !refused(v, bads, e) {
 						t.Errorf("Two(%d, %d, %+v, %+v) = %+v, %v, %d", op, kind, wrong, other, v, bads, e)
@@ -556,7 +402,7 @@ func TestStrangeSets(t *testing.T) {
 					t.Errorf("One(%d, %d, %+v) = %+v, %v, %d", op, kind, wrong, v, bads, e)
 				}
 			}
-			for _, to := range kinds() {
+			for _, to := range samples.Kinds() {
 				if v, e := maths.Cast(kind, to, wrong); !refused(v, nil, e) {
 					t.Errorf("Cast(%d, %d, %+v) = %+v, %d", kind, to, wrong, v, e)
 				}
@@ -567,9 +413,9 @@ func TestStrangeSets(t *testing.T) {
 
 // P4.1, P4.2: no operator of two, or of one.
 func TestNoOperators(t *testing.T) {
-	for _, kind := range kinds() {
-		w := widthOf(kind)
-		for _, v := range []api.Val{no(w), just(w, 1), row(w, 0, 1<<w-1)} {
+	for _, kind := range samples.Kinds() {
+		w := samples.Width(kind)
+		for _, v := range []api.Val{samples.None(w), samples.Just(w, 1), samples.Row(w, 0, 1<<w-1)} {
 			for _, op := range []int{api.ENone, api.ENum, api.ECast, api.ENeg, api.ENot, api.EZero, api.EMove, api.EApart, api.ESame, -1, 99, math.MaxInt, math.MinInt} {
 				if told, bads, e := maths.Two(op, kind, v, v); !refused(told, bads, e) {
 					t.Errorf("Two(%d, %d) = %+v, %v, %d", op, kind, told, bads, e)
@@ -586,8 +432,8 @@ func TestNoOperators(t *testing.T) {
 
 // P4.1, P4.2: no kind of numbers.
 func TestNoKinds(t *testing.T) {
-	for _, kind := range notKinds() {
-		for _, v := range []api.Val{{}, just(8, 1), no(16), row(32, 0, 5)} {
+	for _, kind := range samples.NotKinds() {
+		for _, v := range []api.Val{{}, samples.Just(8, 1), samples.None(16), samples.Row(32, 0, 5)} {
 			for _, op := range opsOfTwo() {
 				if told, bads, e := maths.Two(op, kind, v, v); !refused(told, bads, e) {
 					t.Errorf("Two(%d, %d, %+v) = %+v, %v, %d", op, kind, v, told, bads, e)
@@ -601,7 +447,7 @@ func TestNoKinds(t *testing.T) {
 			if told, e := maths.Cast(kind, api.KU8, v); !refused(told, nil, e) {
 				t.Errorf("Cast(%d, KU8, %+v) = %+v, %d", kind, v, told, e)
 			}
-			if told, e := maths.Cast(api.KU8, kind, just(8, 1)); !refused(told, nil, e) {
+			if told, e := maths.Cast(api.KU8, kind, samples.Just(8, 1)); !refused(told, nil, e) {
 				t.Errorf("Cast(KU8, %d) = %+v, %d", kind, told, e)
 			}
 		}
@@ -617,37 +463,37 @@ func TestTwoTight(t *testing.T) {
 		want     api.Val
 		bads     []int
 	}{
-		{api.EAdd, api.KU8, row(8, 10, 20), row(8, 1, 5), row(8, 11, 25), nil},
-		{api.EAdd, api.KU8, row(8, 250, 255), row(8, 1, 5), row(8, 251, 4), nil},
-		{api.EAdd, api.KI8, row(8, 100, 127), row(8, 1, 9), row(8, 101, 127), []int{api.BadOver}},
-		{api.EAdd, api.KU8, row(8, 6, 4), just(8, 1), row(8, 7, 5), nil},
-		{api.ESub, api.KU8, row(8, 0, 10), just(8, 1), row(8, 255, 9), nil},
-		{api.ESub, api.KI8, row(8, 246, 10), row(8, 0, 5), row(8, 241, 10), nil},
-		{api.EMul, api.KU8, row(8, 0, 9), just(8, 4), api.Val{Width: 8, High: 36, Free: 60}, nil},
-		{api.EMul, api.KI8, row(8, 246, 10), row(8, 253, 3), row(8, 226, 30), nil},
-		{api.EDiv, api.KU8, row(8, 20, 100), row(8, 2, 10), row(8, 2, 50), nil},
-		{api.EDiv, api.KI8, row(8, 128, 131), row(8, 254, 255), row(8, 62, 127), []int{api.BadOver}},
-		{api.EDiv, api.KU8, row(8, 0, 255), row(8, 0, 5), row(8, 0, 255), []int{api.BadZero}},
-		{api.ERem, api.KU8, row(8, 0, 255), just(8, 10), row(8, 0, 9), nil},
-		{api.ERem, api.KU8, row(8, 0, 255), just(8, 16), api.Val{Width: 8, High: 15, Free: 15}, nil},
-		{api.ERem, api.KU8, row(8, 25, 29), just(8, 10), row(8, 5, 9), nil},
-		{api.ERem, api.KI8, row(8, 128, 255), row(8, 5, 9), row(8, 248, 0), nil},
-		{api.ERem, api.KU8, row(8, 3, 9), row(8, 10, 20), row(8, 3, 9), nil},
-		{api.ERem, api.KU8, fours, just(8, 10), api.Val{Width: 8, High: 8, Free: 254}, nil},
-		{api.EAnd, api.KU8, row(8, 0, 255), just(8, 15), api.Val{Width: 8, High: 15, Free: 15}, nil},
-		{api.EAnd, api.KU8, row(8, 0, 5), row(8, 0, 255), row(8, 0, 5), nil},
-		{api.EAnd, api.KI8, row(8, 128, 255), row(8, 0, 9), row(8, 0, 9), nil},
-		{api.EOr, api.KU8, row(8, 100, 120), row(8, 0, 255), row(8, 100, 255), nil},
-		{api.EOr, api.KU8, row(8, 0, 255), row(8, 100, 120), row(8, 100, 255), nil},
-		{api.EOr, api.KU8, fours, just(8, 2), api.Val{Width: 8, High: 255, Free: 252, Bits: 2}, nil},
-		{api.EXor, api.KU8, row(8, 0, 7), just(8, 8), api.Val{Width: 8, High: 255, Free: 7, Bits: 8}, nil},
-		{api.EShl, api.KU8, row(8, 0, 9), just(8, 2), api.Val{Width: 8, High: 36, Free: 60}, nil},
-		{api.EShr, api.KI8, row(8, 128, 200), just(8, 3), row(8, 240, 249), nil},
-		{api.EShl, api.KU8, just(8, 1), row(8, 0, 255), row(8, 1, 128), []int{api.BadShift}},
-		{api.EEq, api.KU8, row(8, 7, 7), just(8, 7), just(32, 1), nil},
-		{api.EEq, api.KU8, row(8, 0, 9), row(8, 10, 20), just(32, 0), nil},
-		{api.ELess, api.KI8, row(8, 200, 255), row(8, 0, 9), just(32, 1), nil},
-		{api.ELess, api.KU8, row(8, 200, 255), row(8, 0, 200), just(32, 0), nil},
+		{api.EAdd, api.KU8, samples.Row(8, 10, 20), samples.Row(8, 1, 5), samples.Row(8, 11, 25), nil},
+		{api.EAdd, api.KU8, samples.Row(8, 250, 255), samples.Row(8, 1, 5), samples.Row(8, 251, 4), nil},
+		{api.EAdd, api.KI8, samples.Row(8, 100, 127), samples.Row(8, 1, 9), samples.Row(8, 101, 127), []int{api.BadOver}},
+		{api.EAdd, api.KU8, samples.Row(8, 6, 4), samples.Just(8, 1), samples.Row(8, 7, 5), nil},
+		{api.ESub, api.KU8, samples.Row(8, 0, 10), samples.Just(8, 1), samples.Row(8, 255, 9), nil},
+		{api.ESub, api.KI8, samples.Row(8, 246, 10), samples.Row(8, 0, 5), samples.Row(8, 241, 10), nil},
+		{api.EMul, api.KU8, samples.Row(8, 0, 9), samples.Just(8, 4), api.Val{Width: 8, High: 36, Free: 60}, nil},
+		{api.EMul, api.KI8, samples.Row(8, 246, 10), samples.Row(8, 253, 3), samples.Row(8, 226, 30), nil},
+		{api.EDiv, api.KU8, samples.Row(8, 20, 100), samples.Row(8, 2, 10), samples.Row(8, 2, 50), nil},
+		{api.EDiv, api.KI8, samples.Row(8, 128, 131), samples.Row(8, 254, 255), samples.Row(8, 62, 127), []int{api.BadOver}},
+		{api.EDiv, api.KU8, samples.Row(8, 0, 255), samples.Row(8, 0, 5), samples.Row(8, 0, 255), []int{api.BadZero}},
+		{api.ERem, api.KU8, samples.Row(8, 0, 255), samples.Just(8, 10), samples.Row(8, 0, 9), nil},
+		{api.ERem, api.KU8, samples.Row(8, 0, 255), samples.Just(8, 16), api.Val{Width: 8, High: 15, Free: 15}, nil},
+		{api.ERem, api.KU8, samples.Row(8, 25, 29), samples.Just(8, 10), samples.Row(8, 5, 9), nil},
+		{api.ERem, api.KI8, samples.Row(8, 128, 255), samples.Row(8, 5, 9), samples.Row(8, 248, 0), nil},
+		{api.ERem, api.KU8, samples.Row(8, 3, 9), samples.Row(8, 10, 20), samples.Row(8, 3, 9), nil},
+		{api.ERem, api.KU8, fours, samples.Just(8, 10), api.Val{Width: 8, High: 8, Free: 254}, nil},
+		{api.EAnd, api.KU8, samples.Row(8, 0, 255), samples.Just(8, 15), api.Val{Width: 8, High: 15, Free: 15}, nil},
+		{api.EAnd, api.KU8, samples.Row(8, 0, 5), samples.Row(8, 0, 255), samples.Row(8, 0, 5), nil},
+		{api.EAnd, api.KI8, samples.Row(8, 128, 255), samples.Row(8, 0, 9), samples.Row(8, 0, 9), nil},
+		{api.EOr, api.KU8, samples.Row(8, 100, 120), samples.Row(8, 0, 255), samples.Row(8, 100, 255), nil},
+		{api.EOr, api.KU8, samples.Row(8, 0, 255), samples.Row(8, 100, 120), samples.Row(8, 100, 255), nil},
+		{api.EOr, api.KU8, fours, samples.Just(8, 2), api.Val{Width: 8, High: 255, Free: 252, Bits: 2}, nil},
+		{api.EXor, api.KU8, samples.Row(8, 0, 7), samples.Just(8, 8), api.Val{Width: 8, High: 255, Free: 7, Bits: 8}, nil},
+		{api.EShl, api.KU8, samples.Row(8, 0, 9), samples.Just(8, 2), api.Val{Width: 8, High: 36, Free: 60}, nil},
+		{api.EShr, api.KI8, samples.Row(8, 128, 200), samples.Just(8, 3), samples.Row(8, 240, 249), nil},
+		{api.EShl, api.KU8, samples.Just(8, 1), samples.Row(8, 0, 255), samples.Row(8, 1, 128), []int{api.BadShift}},
+		{api.EEq, api.KU8, samples.Row(8, 7, 7), samples.Just(8, 7), samples.Just(32, 1), nil},
+		{api.EEq, api.KU8, samples.Row(8, 0, 9), samples.Row(8, 10, 20), samples.Just(32, 0), nil},
+		{api.ELess, api.KI8, samples.Row(8, 200, 255), samples.Row(8, 0, 9), samples.Just(32, 1), nil},
+		{api.ELess, api.KU8, samples.Row(8, 200, 255), samples.Row(8, 0, 200), samples.Just(32, 0), nil},
 	} {
 		v, bads, e := maths.Two(c.op, c.kind, c.a, c.b)
 		is, f := val.In(v, c.want)
@@ -665,11 +511,11 @@ func TestOneTight(t *testing.T) {
 		want     api.Val
 		bads     []int
 	}{
-		{api.ENeg, api.KU8, row(8, 0, 9), row(8, 247, 0), nil},
-		{api.ENeg, api.KI8, row(8, 128, 137), row(8, 119, 127), []int{api.BadOver}},
-		{api.ENot, api.KU8, row(8, 10, 20), row(8, 235, 245), nil},
-		{api.EZero, api.KI8, row(8, 1, 255), just(32, 0), nil},
-		{api.EZero, api.KU8, row(8, 255, 5), row(32, 0, 1), nil},
+		{api.ENeg, api.KU8, samples.Row(8, 0, 9), samples.Row(8, 247, 0), nil},
+		{api.ENeg, api.KI8, samples.Row(8, 128, 137), samples.Row(8, 119, 127), []int{api.BadOver}},
+		{api.ENot, api.KU8, samples.Row(8, 10, 20), samples.Row(8, 235, 245), nil},
+		{api.EZero, api.KI8, samples.Row(8, 1, 255), samples.Just(32, 0), nil},
+		{api.EZero, api.KU8, samples.Row(8, 255, 5), samples.Row(32, 0, 1), nil},
 	} {
 		v, bads, e := maths.One(c.op, c.kind, c.a)
 		is, f := val.In(v, c.want)
@@ -682,9 +528,9 @@ func TestOneTight(t *testing.T) {
 		a        api.Val
 		want     api.Val
 	}{
-		{api.KI8, api.KU16, row(8, 250, 5), row(16, 65530, 5)},
-		{api.KU8, api.KU16, row(8, 200, 255), row(16, 200, 255)},
-		{api.KU32, api.KU8, row(32, 510, 515), row(8, 254, 3)},
+		{api.KI8, api.KU16, samples.Row(8, 250, 5), samples.Row(16, 65530, 5)},
+		{api.KU8, api.KU16, samples.Row(8, 200, 255), samples.Row(16, 200, 255)},
+		{api.KU32, api.KU8, samples.Row(32, 510, 515), samples.Row(8, 254, 3)},
 		{api.KI32, api.KI8, api.Val{Width: 32, High: 1<<32 - 1, Free: 1<<32 - 4}, api.Val{Width: 8, High: 255, Free: 252}},
 	} {
 		v, e := maths.Cast(c.from, c.to, c.a)
@@ -697,10 +543,10 @@ func TestOneTight(t *testing.T) {
 
 // The chapter's example, of all kinds; P4.3: it is told, among the others.
 func TestExample(t *testing.T) {
-	for _, kind := range kinds() {
-		w := widthOf(kind)
-		for _, a := range []api.Val{just(w, 5), row(w, 0, 1<<w-1)} {
-			for _, b := range []api.Val{just(w, 0), row(w, 0, 3), row(w, 1<<w-1, 1), row(w, 0, 1<<w-1)} {
+	for _, kind := range samples.Kinds() {
+		w := samples.Width(kind)
+		for _, a := range []api.Val{samples.Just(w, 5), samples.Row(w, 0, 1<<w-1)} {
+			for _, b := range []api.Val{samples.Just(w, 0), samples.Row(w, 0, 3), samples.Row(w, 1<<w-1, 1), samples.Row(w, 0, 1<<w-1)} {
 				for _, op := range []int{api.EDiv, api.ERem} {
 					if _, bads, e := maths.Two(op, kind, a, b); e != api.OK || !slices.Contains(bads, api.BadZero) {
 						t.Errorf("Two(%d, %d, %+v, %+v): %v, %d", op, kind, a, b, bads, e)
@@ -709,7 +555,7 @@ func TestExample(t *testing.T) {
 			}
 		}
 	}
-	all := row(8, 0, 255)
+	all := samples.Row(8, 0, 255)
 	if _, bads, e := maths.Two(api.EDiv, api.KI8, all, all); e != api.OK || !slices.Equal(bads, []int{api.BadOver, api.BadZero}) {
 		t.Errorf("EDiv of all: %v, %d", bads, e)
 	}
@@ -717,7 +563,7 @@ func TestExample(t *testing.T) {
 
 // R2: a list that is told is new memory, spare room too.
 func TestToldIsNew(t *testing.T) {
-	all := row(8, 0, 255)
+	all := samples.Row(8, 0, 255)
 	_, first, _ := maths.Two(api.EDiv, api.KI8, all, all)
 	for i := range first[:cap(first)] {
 		first[:cap(first)][i] = -1
@@ -730,7 +576,7 @@ func TestToldIsNew(t *testing.T) {
 
 // R1: how goroutines take turns is not to be seen.
 func TestTogether(t *testing.T) {
-	a, b := row(8, 250, 20), row(8, 255, 9)
+	a, b := samples.Row(8, 250, 20), samples.Row(8, 255, 9)
 	want, bads, _ := maths.Two(api.EDiv, api.KI8, a, b)
 	var each sync.WaitGroup
 	for range 16 {

@@ -8,6 +8,7 @@ import (
 	"testing"
 
 	"cellar/api"
+	"cellar/samples"
 	"cellar/val"
 )
 
@@ -72,34 +73,11 @@ func wrongWidths() []api.Val {
 	return l
 }
 
-// isMember is the chapter's word for word.
-func isMember(v api.Val, n int) bool {
-	if v.None {
-		return false
-	}
-	round := v.Low <= n && n <= v.High
-	if v.Low > v.High {
-		round = v.Low <= n || n <= v.High
-	}
-	return round && n&^v.Free == v.Bits
-}
-
-// all are the members of a set of 8 or 16 bits, one by one.
-func all(v api.Val) []int {
-	var l []int
-	for n := range 1 << v.Width {
-		if isMember(v, n) {
-			l = append(l, n)
-		}
-	}
-	return l
-}
-
 // few are the members of a set of whatever width that has few free bits.
 func few(v api.Val) []int {
 	var l []int
 	for part := v.Free; ; part = (part - 1) & v.Free {
-		if n := part | v.Bits; isMember(v, n) {
+		if n := part | v.Bits; samples.Has(v, n) {
 			l = append(l, n)
 		}
 		if part == 0 {
@@ -112,7 +90,7 @@ func few(v api.Val) []int {
 // holds is a set that may be and has all of the list.
 func holds(v api.Val, l []int) bool {
 	for _, n := range l {
-		if !isMember(v, n) {
+		if !samples.Has(v, n) {
 			return false
 		}
 	}
@@ -326,7 +304,7 @@ func TestMembers(t *testing.T) {
 		numbers[n] = n
 	}
 	for _, v := range sets8(3000) {
-		ask(t, v, all(v), numbers)
+		ask(t, v, samples.Members(v), numbers)
 	}
 	ends := []int{0, 1, 5, 127, 128, 200, 255}
 	for free := range 256 {
@@ -334,7 +312,7 @@ func TestMembers(t *testing.T) {
 			for _, low := range ends {
 				for _, high := range ends {
 					v := api.Val{Width: 8, Low: low, High: high, Free: free, Bits: bits &^ free}
-					ask(t, v, all(v), []int{0, low, high, 1, 77, 128, 254, 255})
+					ask(t, v, samples.Members(v), []int{0, low, high, 1, 77, 128, 254, 255})
 				}
 			}
 		}
@@ -393,7 +371,7 @@ func TestOne(t *testing.T) {
 		for _, n := range []int{0, 1, 3, 127, 128, 255, 1<<(w-1) - 1, 1 << (w - 1), 1<<w - 2, 1<<w - 1} {
 			v, e := val.One(w, n)
 			is, m, f := val.Single(v)
-			if e != api.OK || f != api.OK || v.Width != w || !is || m != n || !isMember(v, n) {
+			if e != api.OK || f != api.OK || v.Width != w || !is || m != n || !samples.Has(v, n) {
 				t.Errorf("One(%d, %d) = %v, %d: %v, %d, %d", w, n, v, e, is, m, f)
 			}
 		}
@@ -403,7 +381,7 @@ func TestOne(t *testing.T) {
 			}
 		}
 	}
-	if v, e := val.One(8, 3); e != api.OK || !slices.Equal(all(v), []int{3}) {
+	if v, e := val.One(8, 3); e != api.OK || !slices.Equal(samples.Members(v), []int{3}) {
 		t.Errorf("One(8, 3) = %v, %d", v, e)
 	}
 }
@@ -418,7 +396,7 @@ func TestAllAndNo(t *testing.T) {
 		}
 		for i := range w + 1 {
 			for d := -1; d <= 1; d++ {
-				if n := 1<<i + d; n < 1<<w && (!isMember(every, n) || isMember(none, n)) {
+				if n := 1<<i + d; n < 1<<w && (!samples.Has(every, n) || samples.Has(none, n)) {
 					t.Errorf("%d: All(%d) = %v, No = %v", n, w, every, none)
 				}
 			}
@@ -427,10 +405,10 @@ func TestAllAndNo(t *testing.T) {
 			t.Errorf("Empty(No(%d)) = %v, %d", w, is, e)
 		}
 	}
-	if every, _ := val.All(8); len(all(every)) != 256 {
+	if every, _ := val.All(8); len(samples.Members(every)) != 256 {
 		t.Errorf("All(8) = %v", every)
 	}
-	if every, _ := val.All(16); len(all(every)) != 1<<16 {
+	if every, _ := val.All(16); len(samples.Members(every)) != 1<<16 {
 		t.Errorf("All(16) = %v", every)
 	}
 	for _, w := range notWidths() {
@@ -491,11 +469,11 @@ func TestPairs(t *testing.T) {
 	l := sets8(300)
 	lists := make([][]int, len(l))
 	for i, v := range l {
-		lists[i] = all(v)
+		lists[i] = samples.Members(v)
 	}
 	for i, a := range l {
 		for k, b := range l {
-			pair(t, a, b, lists[i], lists[k], all)
+			pair(t, a, b, lists[i], lists[k], samples.Members)
 		}
 	}
 }
@@ -529,11 +507,11 @@ func TestManyPairs(t *testing.T) {
 		t.Errorf("Join = %v, %d", join, e)
 	}
 	meet, e := val.Meet(round, middle)
-	if e != api.OK || !holds(meet, []int{top - 9, top - 7, top - 5}) || isMember(meet, 10) || isMember(meet, 1<<31) || isMember(meet, top-10) {
+	if e != api.OK || !holds(meet, []int{top - 9, top - 7, top - 5}) || samples.Has(meet, 10) || samples.Has(meet, 1<<31) || samples.Has(meet, top-10) {
 		t.Errorf("Meet = %v, %d", meet, e)
 	}
 	meet, e = val.Meet(middle, even)
-	if e != api.OK || !holds(meet, []int{100, 1 << 31, top - 5}) || isMember(meet, 99) || isMember(meet, 98) || isMember(meet, top-3) {
+	if e != api.OK || !holds(meet, []int{100, 1 << 31, top - 5}) || samples.Has(meet, 99) || samples.Has(meet, 98) || samples.Has(meet, top-3) {
 		t.Errorf("Meet = %v, %d", meet, e)
 	}
 	for _, c := range []struct {
@@ -566,7 +544,7 @@ func TestIn(t *testing.T) {
 				n = next
 			}
 			one, _ := val.One(w, n)
-			if is, e := val.In(one, v); is != isMember(v, n) || e != api.OK {
+			if is, e := val.In(one, v); is != samples.Has(v, n) || e != api.OK {
 				t.Fatalf("In(%v, %v) = %v, %d", one, v, is, e)
 			}
 		}
@@ -583,7 +561,7 @@ func TestJoinSingles(t *testing.T) {
 	for _, a := range three {
 		for _, b := range slices.Concat(three, empty) {
 			for _, c := range [][2]api.Val{{a, b}, {b, a}} {
-				if v, e := val.Join(c[0], c[1]); e != api.OK || !slices.Equal(all(v), []int{3}) {
+				if v, e := val.Join(c[0], c[1]); e != api.OK || !slices.Equal(samples.Members(v), []int{3}) {
 					t.Errorf("Join(%v, %v) = %v, %d; want just 3", c[0], c[1], v, e)
 				}
 			}
@@ -610,10 +588,10 @@ func TestNothingLost(t *testing.T) {
 			turned, _ := val.Join(b, a)
 			meet, _ := val.Meet(a, b)
 			small, _ := val.Meet(b, a)
-			if !slices.Equal(all(join), all(b)) || !slices.Equal(all(turned), all(b)) {
+			if !slices.Equal(samples.Members(join), samples.Members(b)) || !slices.Equal(samples.Members(turned), samples.Members(b)) {
 				t.Fatalf("Join(%v, %v) = %v, turned %v", a, b, join, turned)
 			}
-			if !slices.Equal(all(meet), all(a)) || !slices.Equal(all(small), all(a)) {
+			if !slices.Equal(samples.Members(meet), samples.Members(a)) || !slices.Equal(samples.Members(small), samples.Members(a)) {
 				t.Fatalf("Meet(%v, %v) = %v, turned %v", a, b, meet, small)
 			}
 		}
@@ -632,8 +610,8 @@ func TestLittleAdded(t *testing.T) {
 		{api.Val{Width: 8, Low: 255, High: 1, Free: 255}, api.Val{Width: 8, Low: 3, High: 4, Free: 255}, []int{255, 0, 1, 2, 3, 4}},
 	} {
 		slices.Sort(c.want)
-		if v, e := val.Join(c.a, c.b); e != api.OK || !slices.Equal(all(v), c.want) {
-			t.Errorf("Join(%v, %v) = %v, %d: %v; want %v", c.a, c.b, v, e, all(v), c.want)
+		if v, e := val.Join(c.a, c.b); e != api.OK || !slices.Equal(samples.Members(v), c.want) {
+			t.Errorf("Join(%v, %v) = %v, %d: %v; want %v", c.a, c.b, v, e, samples.Members(v), c.want)
 		}
 	}
 }
@@ -658,14 +636,14 @@ func walk(t *testing.T, v api.Val) []int {
 // P3.3: Next leads through all members, and no others.
 func TestNextLeads(t *testing.T) {
 	for _, v := range sets8(2000) {
-		if l := walk(t, v); !slices.Equal(l, all(v)) {
-			t.Fatalf("%v: %v; want %v", v, l, all(v))
+		if l := walk(t, v); !slices.Equal(l, samples.Members(v)) {
+			t.Fatalf("%v: %v; want %v", v, l, samples.Members(v))
 		}
 	}
 	r := rand.New(rand.NewSource(8))
 	for range 40 {
-		if v := some(r, 16, 16); !slices.Equal(walk(t, v), all(v)) {
-			t.Fatalf("%v: %v; want %v", v, walk(t, v), all(v))
+		if v := some(r, 16, 16); !slices.Equal(walk(t, v), samples.Members(v)) {
+			t.Fatalf("%v: %v; want %v", v, walk(t, v), samples.Members(v))
 		}
 	}
 	for range 2000 {
