@@ -4,7 +4,6 @@ import (
 	"math"
 	"math/rand"
 	"slices"
-	"sync"
 	"testing"
 
 	"cellar/alu"
@@ -29,15 +28,6 @@ func questions() []int {
 func numbers(seed int64) func() int {
 	r := rand.New(rand.NewSource(seed))
 	return func() int { return int(r.Uint64()) }
-}
-
-// some are the sets of a width that samples names, and so many more.
-func some(number func() int, w int, more int) []api.Val {
-	l := samples.Sets(w)
-	for range more {
-		l = append(l, samples.Some(number, w))
-	}
-	return l
 }
 
 // isLeft is whether x is a set that may be, with all of the numbers, and with none
@@ -117,7 +107,7 @@ func twoHolds(t *testing.T, op int, kind int, a api.Val, b api.Val, la []int, lb
 
 // P5.1 of 8 bits, held against all pairs of members.
 func TestTwoAllMembers(t *testing.T) {
-	l := some(numbers(1), 8, 20)
+	l := samples.Many(numbers(1), 8, 20)
 	members := make([][]int, len(l))
 	for i, v := range l {
 		members[i] = samples.Members(v)
@@ -138,7 +128,7 @@ func TestTwoAllMembers(t *testing.T) {
 func TestTwoSomeMembers(t *testing.T) {
 	number := numbers(2)
 	for _, kind := range samples.Kinds()[2:] {
-		l := some(number, samples.Width(kind), 30)
+		l := samples.Many(number, samples.Width(kind), 30)
 		members := make([][]int, len(l))
 		for i, v := range l {
 			members[i] = samples.Sample(number, v)
@@ -258,7 +248,7 @@ func others(l []int) []int {
 // P5.1 of Zero, held against all members of sets of 8 and 16 bits.
 func TestZeroAllMembers(t *testing.T) {
 	for _, w := range []int{8, 16} {
-		for _, a := range some(numbers(3), w, 150) {
+		for _, a := range samples.Many(numbers(3), w, 150) {
 			l := samples.Members(a)
 			x, e := filter.Zero(a, true)
 			if e != api.OK || (samples.Has(a, 0) && !isJust(x, w, 0)) || (!samples.Has(a, 0) && !isEmpty(x, w)) {
@@ -331,9 +321,9 @@ func downHolds(t *testing.T, from int, to int, a api.Val, b api.Val, la []int) {
 // P5.2 of 8 bits to all kinds, held against all members.
 func TestDownAllMembers(t *testing.T) {
 	number := numbers(4)
-	l := some(number, 8, 60)
+	l := samples.Many(number, 8, 60)
 	for _, to := range samples.Kinds() {
-		second := some(number, samples.Width(to), 30)
+		second := samples.Many(number, samples.Width(to), 30)
 		for _, a := range l {
 			members := samples.Members(a)
 			for _, from := range []int{api.KU8, api.KI8} {
@@ -354,10 +344,10 @@ func TestDownAllMembers(t *testing.T) {
 // P5.2 of 16 bits to all kinds, held against all members of some pairs.
 func TestDownMoreMembers(t *testing.T) {
 	number := numbers(5)
-	for i, a := range some(number, 16, 60) {
+	for i, a := range samples.Many(number, 16, 60) {
 		members := samples.Members(a)
 		for _, to := range samples.Kinds() {
-			second := some(number, samples.Width(to), 0)
+			second := samples.Many(number, samples.Width(to), 0)
 			for k := i % 8; k < len(second); k += 8 {
 				downHolds(t, api.KU16+i%2, to, a, second[k], members)
 			}
@@ -383,10 +373,10 @@ func TestDownRound(t *testing.T) {
 // P5.2 of 32 bits to all kinds, held against members here and there.
 func TestDownSomeMembers(t *testing.T) {
 	number := numbers(6)
-	for _, a := range some(number, 32, 100) {
+	for _, a := range samples.Many(number, 32, 100) {
 		members := samples.Sample(number, a)
 		for _, to := range samples.Kinds() {
-			for _, b := range some(number, samples.Width(to), 20) {
+			for _, b := range samples.Many(number, samples.Width(to), 20) {
 				downHolds(t, api.KU32, to, a, b, members)
 				downHolds(t, api.KI32, to, a, b, members)
 			}
@@ -589,7 +579,7 @@ func TestNeverLarger(t *testing.T) {
 // The chapter's example: EEq of a set and just 3, yes: 3 at most.
 func TestExample(t *testing.T) {
 	three, _ := val.One(8, 3)
-	for _, a := range some(numbers(8), 8, 200) {
+	for _, a := range samples.Many(numbers(8), 8, 200) {
 		for _, kind := range []int{api.KU8, api.KI8} {
 			x, y, e := filter.Two(api.EEq, kind, a, three, true)
 			if in, _ := val.In(x, three); e != api.OK || !in || samples.Has(x, 3) != samples.Has(a, 3) || !alike(x, y) {
@@ -603,18 +593,10 @@ func TestExample(t *testing.T) {
 func TestTogether(t *testing.T) {
 	a, b := samples.Row(8, 250, 20), samples.Row(8, 255, 9)
 	x, y, _ := filter.Two(api.ELess, api.KI8, a, b, true)
-	var each sync.WaitGroup
-	for range 16 {
-		each.Add(1)
-		go func() {
-			defer each.Done()
-			for range 50 {
-				v, u, e := filter.Two(api.ELess, api.KI8, a, b, true)
-				if v != x || u != y || e != api.OK {
-					t.Errorf("told %+v, %+v, %d", v, u, e)
-				}
-			}
-		}()
-	}
-	each.Wait()
+	samples.Together(func() {
+		v, u, e := filter.Two(api.ELess, api.KI8, a, b, true)
+		if v != x || u != y || e != api.OK {
+			t.Errorf("told %+v, %+v, %d", v, u, e)
+		}
+	})
 }

@@ -4,7 +4,6 @@ import (
 	"math"
 	"math/rand"
 	"slices"
-	"sync"
 	"testing"
 
 	"cellar/alu"
@@ -578,18 +577,10 @@ func TestToldIsNew(t *testing.T) {
 func TestTogether(t *testing.T) {
 	a, b := samples.Row(8, 250, 20), samples.Row(8, 255, 9)
 	want, bads, _ := maths.Two(api.EDiv, api.KI8, a, b)
-	var each sync.WaitGroup
-	for range 16 {
-		each.Add(1)
-		go func() {
-			defer each.Done()
-			for range 50 {
-				v, l, e := maths.Two(api.EDiv, api.KI8, a, b)
-				if v != want || !slices.Equal(l, bads) || e != api.OK {
-					t.Errorf("told %+v, %v, %d", v, l, e)
-				}
-			}
-		}()
-	}
-	each.Wait()
+	samples.Together(func() {
+		v, l, e := maths.Two(api.EDiv, api.KI8, a, b)
+		if v != want || !slices.Equal(l, bads) || e != api.OK {
+			t.Errorf("told %+v, %v, %d", v, l, e)
+		}
+	})
 }

@@ -5,6 +5,7 @@ package samples
 import (
 	"math"
 	"slices"
+	"sync"
 
 	"cellar/api"
 )
@@ -162,6 +163,15 @@ func Some(number func() int, w int) api.Val {
 	return api.Val{Width: w, High: top, Free: free, Bits: wide() &^ free}
 }
 
+// Many are Sets of a width, and so many more where number says.
+func Many(number func() int, w int, more int) []api.Val {
+	l := Sets(w)
+	for range more {
+		l = append(l, Some(number, w))
+	}
+	return l
+}
+
 // Sample is members of a set of whatever width: the first and the last ones, and
 // some more where number says.
 func Sample(number func() int, v api.Val) []int {
@@ -183,4 +193,19 @@ func Sample(number func() int, v api.Val) []int {
 	}
 	slices.Sort(l)
 	return slices.Compact(l)
+}
+
+// Together does it often, in several goroutines at once.
+func Together(do func()) {
+	var each sync.WaitGroup
+	for range 16 {
+		each.Add(1)
+		go func() {
+			defer each.Done()
+			for range 50 {
+				do()
+			}
+		}()
+	}
+	each.Wait()
 }
