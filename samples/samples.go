@@ -1,5 +1,5 @@
-// Package samples: kinds and sets of numbers that the packages' tests hand in, and
-// what the chapters say of them, told without the packages that are tested.
+// Package samples: machines, kinds and sets of numbers that the packages' tests hand
+// in, and what the chapters say of them, told without the packages that are tested.
 package samples
 
 import (
@@ -18,6 +18,20 @@ func Kinds() []int {
 // NotKinds are no kinds of numbers.
 func NotKinds() []int {
 	return []int{api.KNone, api.KPtr, api.KArray, api.KStruct, api.KUnion, api.KPart, -1, 99, math.MaxInt, math.MinInt}
+}
+
+// Machines are those that may be.
+func Machines() []api.Abi {
+	return []api.Abi{{Ptr: 2}, {Ptr: 4}, {Big: true, Ptr: 2}, {Big: true, Ptr: 4}}
+}
+
+// NotMachines are machines that may not be.
+func NotMachines() []api.Abi {
+	var l []api.Abi
+	for _, n := range []int{0, 1, 3, 5, 8, -2, -4, math.MaxInt, math.MinInt} {
+		l = append(l, api.Abi{Ptr: n}, api.Abi{Big: true, Ptr: n})
+	}
+	return l
 }
 
 // Width is that of a kind of numbers.

@@ -6,6 +6,7 @@ import (
 	"testing"
 
 	"cellar/api"
+	"cellar/samples"
 	"cellar/word"
 )
 
@@ -43,18 +44,6 @@ func notScalars() []int {
 	return []int{api.KNone, api.KArray, api.KStruct, api.KUnion, api.KPart, -1, 12, 99, math.MaxInt, math.MinInt}
 }
 
-func machines() []api.Abi {
-	return []api.Abi{{Ptr: 2}, {Ptr: 4}, {Big: true, Ptr: 2}, {Big: true, Ptr: 4}}
-}
-
-func notMachines() []api.Abi {
-	var l []api.Abi
-	for _, n := range []int{0, 1, 3, 5, 8, -2, -4, math.MaxInt, math.MinInt} {
-		l = append(l, api.Abi{Ptr: n}, api.Abi{Big: true, Ptr: n})
-	}
-	return l
-}
-
 func notWidths() []int {
 	return []int{0, 1, 7, 9, 15, 24, 31, 33, 63, 64, 65, -8, -16, -32, math.MaxInt, math.MinInt}
 }
@@ -89,7 +78,7 @@ func TestSigned(t *testing.T) {
 
 // P1.1, Size: the machine tells a pointer's alone.
 func TestSize(t *testing.T) {
-	for _, a := range machines() {
+	for _, a := range samples.Machines() {
 		for _, c := range numberKinds() {
 			if n, e := word.Size(a, c.kind); n != c.width/8 || e != api.OK {
 				t.Errorf("Size(%v, %d) = %d, %d; want %d", a, c.kind, n, e, c.width/8)
@@ -103,14 +92,14 @@ func TestSize(t *testing.T) {
 
 // P1.1, Size of what is wrong: the machine, the kind, both.
 func TestSizeForm(t *testing.T) {
-	for _, a := range machines() {
+	for _, a := range samples.Machines() {
 		for _, kind := range notScalars() {
 			if n, e := word.Size(a, kind); n != 0 || e != api.ErrForm {
 				t.Errorf("Size(%v, %d) = %d, %d; want ErrForm", a, kind, n, e)
 			}
 		}
 	}
-	for _, a := range notMachines() {
+	for _, a := range samples.NotMachines() {
 		for _, kind := range append(notScalars(), api.KU8, api.KI32, api.KPtr) {
 			if n, e := word.Size(a, kind); n != 0 || e != api.ErrForm {
 				t.Errorf("Size(%v, %d) = %d, %d; want ErrForm", a, kind, n, e)
