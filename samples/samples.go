@@ -1,5 +1,6 @@
-// Package samples: machines, kinds and sets of numbers that the packages' tests hand
-// in, and what the chapters say of them, told without the packages that are tested.
+// Package samples: machines, kinds, sets of numbers, scalars and bytes that the
+// packages' tests hand in, and what the chapters say of them, told without the packages
+// that are tested.
 package samples
 
 import (
