@@ -24,34 +24,13 @@ var (
 	big    = api.Abi{Ptr: 4, Big: true}
 )
 
-func number(n int) api.Scalar {
-	return api.Scalar{N: n}
-}
-
-func null() api.Scalar {
-	return api.Scalar{Ptr: true}
-}
-
-func pointer(block int, off int) api.Scalar {
-	return api.Scalar{Ptr: true, Block: block, Off: off}
-}
-
-func digits(l ...int) []api.Byte {
-	var row []api.Byte
-	for _, n := range l {
-		row = append(row, samples.Digit(n))
-	}
-	return row
-}
-
-// parts are those of a pointer, of these places.
-func parts(block int, off int, places ...int) []api.Byte {
-	var row []api.Byte
-	for _, i := range places {
-		row = append(row, samples.Part(block, off, i))
-	}
-	return row
-}
+var (
+	number  = samples.Number
+	null    = samples.Null
+	pointer = samples.Pointer
+	digits  = samples.Digits
+	parts   = samples.Parts
+)
 
 func row(l ...[]api.Byte) []api.Byte {
 	return slices.Concat(l...)
@@ -61,26 +40,9 @@ func nothing() []api.Byte {
 	return make([]api.Byte, 1)
 }
 
-// allKinds are those of scalars.
-func allKinds() []int {
-	return append(samples.Kinds(), api.KPtr)
-}
-
-// notKinds are no kinds of scalars.
-func notKinds() []int {
-	return slices.DeleteFunc(samples.NotKinds(), func(kind int) bool { return kind == api.KPtr })
-}
-
-func sizeOf(a api.Abi, kind int) int {
-	if kind == api.KPtr {
-		return a.Ptr
-	}
-	return samples.Width(kind) / 8
-}
-
 // written is chapter 8's words on a scalar's bytes; numbers as the library writes them.
 func written(a api.Abi, kind int, s api.Scalar) []api.Byte {
-	size := sizeOf(a, kind)
+	size := samples.Size(a, kind)
 	if s.Block > 0 {
 		return parts(s.Block, s.Off, []int{0, 1, 2, 3}[:size]...)
 	}
@@ -106,7 +68,7 @@ func written(a api.Abi, kind int, s api.Scalar) []api.Byte {
 
 // P8.1, Check: scalars that may be, of each kind, and none else.
 func TestCheck(t *testing.T) {
-	for _, kind := range allKinds() {
+	for _, kind := range samples.ScalarKinds() {
 		for _, s := range samples.Scalars(kind) {
 			if e := bytes.Check(kind, s); e != api.OK {
 				t.Errorf("Check(%d, %+v) = %d", kind, s, e)
@@ -118,7 +80,7 @@ func TestCheck(t *testing.T) {
 			}
 		}
 	}
-	for _, kind := range notKinds() {
+	for _, kind := range samples.NotScalarKinds() {
 		for _, s := range []api.Scalar{number(0), number(1), null(), pointer(1, 0)} {
 			if e := bytes.Check(kind, s); e != api.ErrForm {
 				t.Errorf("Check(%d, %+v) = %d", kind, s, e)
@@ -252,7 +214,7 @@ func back(t *testing.T, a api.Abi, kind int, s api.Scalar) {
 // P8.3: Get of Put is it: of all numbers of 8 and 16 bits, some of 32, all pointers.
 func TestGetOfPut(t *testing.T) {
 	for _, a := range samples.Machines() {
-		for _, kind := range allKinds() {
+		for _, kind := range samples.ScalarKinds() {
 			for _, s := range samples.Scalars(kind) {
 				back(t, a, kind, s)
 			}
@@ -286,7 +248,7 @@ func TestPutOfWrong(t *testing.T) {
 			t.Errorf("Put(%v, %d, %+v) = %v, %d", a, kind, s, l, e)
 		}
 	}
-	for _, kind := range allKinds() {
+	for _, kind := range samples.ScalarKinds() {
 		for _, a := range samples.NotMachines() {
 			for _, s := range samples.Scalars(kind) {
 				refused(a, kind, s)
@@ -298,7 +260,7 @@ func TestPutOfWrong(t *testing.T) {
 			}
 		}
 	}
-	for _, kind := range notKinds() {
+	for _, kind := range samples.NotScalarKinds() {
 		for _, a := range samples.Machines() {
 			for _, s := range []api.Scalar{number(0), null(), pointer(1, 0)} {
 				refused(a, kind, s)

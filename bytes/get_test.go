@@ -125,8 +125,8 @@ func TestAllRows(t *testing.T) {
 		of = append(of, parts(p.Block, p.Off, 0, 1, 2, 3)...)
 	}
 	for _, a := range samples.Machines() {
-		for _, kind := range allKinds() {
-			rows(sizeOf(a, kind), of, func(l []api.Byte) {
+		for _, kind := range samples.ScalarKinds() {
+			rows(samples.Size(a, kind), of, func(l []api.Byte) {
 				want, wrong := read(a, kind, l, pointers)
 				if s, bad, e := bytes.Get(a, kind, l); s != want || bad != wrong || e != api.OK {
 					t.Fatalf("Get(%v, %d, %v) = %+v, %d, %d; want %+v, %d", a, kind, l, s, bad, e, want, wrong)
@@ -170,23 +170,23 @@ func noForm(t *testing.T, a api.Abi, kind int, l []api.Byte) {
 func TestGetOfWrong(t *testing.T) {
 	for many := range 9 {
 		for _, l := range [][]api.Byte{make([]api.Byte, many), digits(make([]int, many)...)} {
-			for _, kind := range allKinds() {
+			for _, kind := range samples.ScalarKinds() {
 				for _, a := range samples.NotMachines() {
 					noForm(t, a, kind, l)
 				}
 				for _, a := range samples.Machines() {
-					if many != sizeOf(a, kind) {
+					if many != samples.Size(a, kind) {
 						noForm(t, a, kind, l)
 					}
 				}
 			}
-			for _, kind := range notKinds() {
+			for _, kind := range samples.NotScalarKinds() {
 				noForm(t, little, kind, l)
 				noForm(t, big, kind, l)
 			}
 		}
 	}
-	for _, kind := range allKinds() {
+	for _, kind := range samples.ScalarKinds() {
 		noForm(t, little, kind, nil)
 		noForm(t, little, kind, make([]api.Byte, 100000))
 	}
@@ -195,8 +195,8 @@ func TestGetOfWrong(t *testing.T) {
 // P8.2: bytes that may not be, wherever, ahead of what goes wrong.
 func TestGetOfWrongBytes(t *testing.T) {
 	for _, a := range samples.Machines() {
-		for _, kind := range allKinds() {
-			size := sizeOf(a, kind)
+		for _, kind := range samples.ScalarKinds() {
+			size := samples.Size(a, kind)
 			for at := range size {
 				for _, b := range samples.NotBytes() {
 					for _, l := range [][]api.Byte{make([]api.Byte, size), digits(make([]int, size)...), parts(1, 0, []int{0, 1, 2, 3}[:size]...)} {
@@ -212,7 +212,7 @@ func TestGetOfWrongBytes(t *testing.T) {
 // R2: what is told is new memory, spare room too; what is handed in stays as it is.
 func TestNewMemory(t *testing.T) {
 	for _, a := range samples.Machines() {
-		for _, kind := range allKinds() {
+		for _, kind := range samples.ScalarKinds() {
 			for _, s := range samples.Scalars(kind) {
 				one, _ := bytes.Put(a, kind, s)
 				other, _ := bytes.Put(a, kind, s)

@@ -2,9 +2,43 @@ package samples
 
 import (
 	"math"
+	"slices"
 
 	"cellar/api"
 )
+
+// ScalarKinds are the kinds of scalars.
+func ScalarKinds() []int {
+	return append(Kinds(), api.KPtr)
+}
+
+// NotScalarKinds are no kinds of scalars.
+func NotScalarKinds() []int {
+	return slices.DeleteFunc(NotKinds(), func(kind int) bool { return kind == api.KPtr })
+}
+
+// Size is how many bytes a scalar of a kind has on a machine.
+func Size(a api.Abi, kind int) int {
+	if kind == api.KPtr {
+		return a.Ptr
+	}
+	return Width(kind) / 8
+}
+
+// Number is a scalar.
+func Number(n int) api.Scalar {
+	return api.Scalar{N: n}
+}
+
+// Null is the pointer to nothing.
+func Null() api.Scalar {
+	return api.Scalar{Ptr: true}
+}
+
+// Pointer is one to a block.
+func Pointer(block int, off int) api.Scalar {
+	return api.Scalar{Ptr: true, Block: block, Off: off}
+}
 
 // Scalars are some that may be of a kind: the edges among them.
 func Scalars(kind int) []api.Scalar {
@@ -51,9 +85,27 @@ func Digit(n int) api.Byte {
 	return api.Byte{State: api.IsByte, N: n}
 }
 
+// Digits are bytes of numbers.
+func Digits(l ...int) []api.Byte {
+	var row []api.Byte
+	for _, n := range l {
+		row = append(row, Digit(n))
+	}
+	return row
+}
+
 // Part is the i-th byte of a pointer.
 func Part(block int, off int, i int) api.Byte {
 	return api.Byte{State: api.IsPart, Block: block, Off: off, I: i}
+}
+
+// Parts are those of a pointer, of these places.
+func Parts(block int, off int, places ...int) []api.Byte {
+	var row []api.Byte
+	for _, i := range places {
+		row = append(row, Part(block, off, i))
+	}
+	return row
 }
 
 // Bytes are some that may be: the edges among them.

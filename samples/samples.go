@@ -1,4 +1,4 @@
-// Package samples: machines, kinds, sets of numbers, scalars and bytes that the
+// Package samples: machines, kinds, sets of numbers, scalars, bytes and memories that the
 // packages' tests hand in, and what the chapters say of them, told without the packages
 // that are tested.
 package samples
