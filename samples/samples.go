@@ -1,6 +1,6 @@
-// Package samples: machines, kinds, sets of numbers, scalars, bytes, memories, words,
-// programs' texts, programs, scripts and states that the packages' tests hand in, and what
-// the chapters say of them, told without the packages that are tested.
+// Package samples: machines, kinds, sets of numbers and of scalars, scalars, bytes, memories,
+// words, programs' texts, programs, scripts and states that the packages' tests hand in, and
+// what the chapters say of them, told without the packages that are tested.
 package samples
 
 import (
